@@ -15,14 +15,26 @@ import (
 // askers is how many goroutines ask at the same time.
 const askers = 16
 
-// first is what Back returned before anything else of the package was called:
-// variables are initialized before the tests run, in whatever order those are.
-var first = backAtOnce()
+// firstBack and firstRoots are what the ways back were before anything else of
+// the package was called: variables are initialized before the tests run. Back
+// is asked first, when the table that Roots returns is not made yet.
+var (
+	firstBack  = atOnce(back)
+	firstRoots = atOnce(sbox.Roots)
+)
 
-// backAtOnce asks for the way back of all bytes, in each goroutine from another
-// byte on. They wait for each other without sleeping, as they would not wake up
-// at the same time.
-func backAtOnce() *[askers][256]byte {
+// back asks for the way back of all bytes.
+func back() [256]byte {
+	var l [256]byte
+	for i := range l {
+		l[i] = sbox.Back(byte(i))
+	}
+	return l
+}
+
+// atOnce asks in many goroutines. They wait for each other without sleeping, as
+// they would not wake up at the same time.
+func atOnce(ask func() [256]byte) *[askers][256]byte {
 	var l [askers][256]byte
 	var done sync.WaitGroup
 	var ready atomic.Int32
@@ -32,10 +44,7 @@ func backAtOnce() *[askers][256]byte {
 			for ready.Load() < askers {
 				runtime.Gosched()
 			}
-			for k := range 256 {
-				b := byte(k + i*256/askers)
-				l[i][b] = sbox.Back(b)
-			}
+			l[i] = ask()
 		})
 	}
 	done.Wait()
@@ -93,12 +102,15 @@ func known() map[byte]byte {
 // check says what of the package is wrong about the bytes, if anything is.
 func check(t *testing.T) {
 	t.Helper()
-	l := sbox.Table()
+	l, roots := sbox.Table(), sbox.Roots()
 	for i := range 256 {
 		b := byte(i)
 		s := box(b)
-		if sbox.S(b) != s || l[i] != s || sbox.Back(s) != b || sbox.Word(word(b, b, b, b)) != word(s, s, s, s) {
-			t.Errorf("S(%#x) = %#x, Table()[%d] = %#x, Back(%#x) = %#x, want %#x", b, sbox.S(b), i, l[i], s, sbox.Back(s), s)
+		if sbox.S(b) != s || l[i] != s || sbox.Word(word(b, b, b, b)) != word(s, s, s, s) {
+			t.Errorf("S(%#x) = %#x, Table()[%d] = %#x, want %#x", b, sbox.S(b), i, l[i], s)
+		}
+		if sbox.Back(s) != b || roots[s] != b {
+			t.Errorf("Back(%#x) = %#x, Roots()[%d] = %#x, want %#x", s, sbox.Back(s), s, roots[s], b)
 		}
 		if sbox.Affine(b) != image(b) {
 			t.Errorf("Affine(%#x) = %#x, want %#x", b, sbox.Affine(b), image(b))
@@ -152,34 +164,61 @@ func TestBackOfAllBytesTwice(t *testing.T) {
 	}
 }
 
-func TestBackAskedForFirst(t *testing.T) {
-	for s, want := range roots(t) {
-		for k := range first {
-			if got := first[k][s]; got != want {
-				t.Errorf("Back(%#x) = %#x for the goroutine %d, want %#x", s, got, k, want)
+func TestTableOfTheWayBackIsThatOfBack(t *testing.T) {
+	want := roots(t)
+	for range 2 {
+		l := sbox.Roots()
+		for s := range l {
+			if got := sbox.Back(byte(s)); l[s] != got || l[s] != want[s] {
+				t.Errorf("Roots()[%d] = %#x, Back(%#x) = %#x, want %#x", s, l[s], s, got, want[s])
 			}
 		}
 	}
 }
 
+func TestWayBackAskedForFirst(t *testing.T) {
+	want := roots(t)
+	for k := range askers {
+		if firstBack[k] != want {
+			t.Errorf("Back has the table %v for the goroutine %d", firstBack[k], k)
+		}
+		if firstRoots[k] != want {
+			t.Errorf("Roots() = %v for the goroutine %d", firstRoots[k], k)
+		}
+	}
+}
+
 // A process has a single first time, and goroutines may miss each other in it.
-func TestBackAskedForFirstInManyProcesses(t *testing.T) {
+func TestWayBackAskedForFirstInManyProcesses(t *testing.T) {
 	for range 20 {
-		out, err := exec.Command(os.Args[0], "-test.run=^TestBackAskedForFirst$").CombinedOutput()
+		out, err := exec.Command(os.Args[0], "-test.run=^TestWayBackAskedForFirst$").CombinedOutput()
 		if err != nil {
 			t.Fatalf("%v\n%s", err, out)
 		}
 	}
 }
 
-func TestBackAskedForByGoroutines(t *testing.T) {
+func TestWayBackAskedForByGoroutines(t *testing.T) {
 	want := roots(t)
-	for range 20 {
-		for k, l := range backAtOnce() {
-			if l != want {
-				t.Errorf("Back has the table %v for the goroutine %d", l, k)
+	for _, ask := range []func() [256]byte{back, sbox.Roots} {
+		for range 20 {
+			for k, l := range atOnce(ask) {
+				if l != want {
+					t.Errorf("the table is %v for the goroutine %d", l, k)
+				}
 			}
 		}
+	}
+}
+
+func TestTableOfTheWayBackThatTheCallerChanges(t *testing.T) {
+	l := sbox.Roots()
+	for i := range l {
+		l[i] = byte(i)
+	}
+	check(t)
+	if l == sbox.Roots() {
+		t.Error("the changes are in the next table")
 	}
 }
 
@@ -324,6 +363,9 @@ func TestBackInvertsS(t *testing.T) {
 		}
 		if got := sbox.S(sbox.Back(b)); got != b {
 			t.Errorf("S(Back(%#x)) = %#x", b, got)
+		}
+		if got := sbox.Roots()[sbox.S(b)]; got != b {
+			t.Errorf("Roots()[S(%#x)] = %#x", b, got)
 		}
 		seen[sbox.S(b)] = true
 	}
