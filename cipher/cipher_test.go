@@ -497,7 +497,8 @@ func TestEncryptOfZeroBytes(t *testing.T) {
 	}
 }
 
-// Each result is the next block, and each block the next key.
+// Each result is the next block, and each block the next key. What the chains end
+// with was computed with another program, the AES of Go's library.
 func TestChains(t *testing.T) {
 	for i, x := range []struct {
 		next func(key, block [16]byte) [16]byte
