@@ -1,6 +1,7 @@
 package fast_test
 
 import (
+	"encoding/binary"
 	"encoding/hex"
 	"os"
 	"os/exec"
@@ -536,6 +537,56 @@ func TestCiphersOfSeveralGoroutines(t *testing.T) {
 	})
 }
 
+// column has the four bytes of a block from the index 0 on, the first one as the
+// highest byte.
+func column(b [16]byte) uint32 {
+	return uint32(b[0])<<24 + uint32(b[1])<<16 + uint32(b[2])<<8 + uint32(b[3])
+}
+
+// checkTables says what of the tables is wrong, if anything is.
+func checkTables(t *testing.T) {
+	t.Helper()
+	there, back := fast.Tables()
+	for i := range 256 {
+		s, root := cipher.Sub(full(byte(i)))[0], cipher.Unsub(full(byte(i)))[0]
+		if want := column(cipher.Mix([16]byte{s})); there[i] != want {
+			t.Errorf("the table there has %#08x for %#x, want %#08x", there[i], i, want)
+		}
+		if want := column(cipher.Unmix([16]byte{root})); back[i] != want {
+			t.Errorf("the table back has %#08x for %#x, want %#08x", back[i], i, want)
+		}
+	}
+}
+
+func TestTablesHaveWhatTheStepsMake(t *testing.T) {
+	for range 2 {
+		checkTables(t)
+	}
+}
+
+func TestTablesOfExamples(t *testing.T) {
+	there, back := fast.Tables()
+	if there[0] != 0xc66363a5 || there[1] != 0xf87c7c84 || there[0xff] != 0x2c16163a {
+		t.Errorf("the table there has %#08x, %#08x .. %#08x", there[0], there[1], there[0xff])
+	}
+	if back[0] != 0x51f4a750 || back[1] != 0x7e416553 || back[0xff] != 0xd0b85742 || back[0x63] != 0 {
+		t.Errorf("the table back has %#08x, %#08x .. %#08x .. %#08x", back[0], back[1], back[0x63], back[0xff])
+	}
+}
+
+func TestTablesThatTheCallerChanges(t *testing.T) {
+	there, back := fast.Tables()
+	for i := range 256 {
+		there[i], back[i] = ^there[i], ^back[i]
+	}
+	checkTables(t)
+	check(t, fast.New(sample(1)), sample(1), sample(2))
+}
+
+func TestTablesOfSeveralGoroutines(t *testing.T) {
+	atOnce(func(uint32) { checkTables(t) })
+}
+
 // firsts are the calls with which the use of the package may start.
 func firsts() map[string]func() [16]byte {
 	var none *fast.Cipher
@@ -550,11 +601,26 @@ func firsts() map[string]func() [16]byte {
 		"Encrypt-zero": func() [16]byte { return zero.Encrypt(count(2)) },
 		"Decrypt-zero": func() [16]byte { return zero.Decrypt(count(2)) },
 		"All-zero":     func() [16]byte { return zero.All(count(2))[0] },
+		"Tables":       firstTables,
+		"Tables-used":  func() [16]byte { fast.New(count(1)).Decrypt(count(2)); return firstTables() },
 	}
+}
+
+// firstTables are the first two columns of each table.
+func firstTables() [16]byte {
+	there, back := fast.Tables()
+	var b [16]byte
+	for i, w := range []uint32{there[0], there[1], back[0], back[1]} {
+		binary.BigEndian.PutUint32(b[4*i:], w)
+	}
+	return b
 }
 
 // wanted is what such a call returns.
 func wanted(name string) [16]byte {
+	if strings.HasPrefix(name, "Tables") {
+		return [16]byte{0xc6, 0x63, 0x63, 0xa5, 0xf8, 0x7c, 0x7c, 0x84, 0x51, 0xf4, 0xa7, 0x50, 0x7e, 0x41, 0x65, 0x53}
+	}
 	key := count(1)
 	if strings.HasSuffix(name, "-nil") || strings.HasSuffix(name, "-zero") {
 		key = zeros
